@@ -12,7 +12,7 @@ func ExampleWeight() {
 	w := api.Works{
 		Vessels: []api.Vessel{
 			{From: -1, Room: 40, Loss: api.Span{Lo: 1, Hi: 4}}, // a melt
-			{From: 0, Room: 20},                                // a pan filled out of it
+			{From: 0, Room: 20}, // a pan filled out of it
 		},
 		Readings: []api.Reading{{Vessel: 0, Scale: 0, Shown: 20, Err: 1}},
 	}
